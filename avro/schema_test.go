@@ -131,7 +131,7 @@ func TestNames(t *testing.T) {
 	for _, name := range []string{"F", "f", "_", "_1", "AZaz09_", "a.b", "a1._.B", "record", "n.int", "int.F"} {
 		look(t, [][2]string{{fixed("'" + name + "'"), plain(name)}})
 	}
-	for _, name := range []string{"''", "'1F'", "'a-b'", "'a b'", "' a'", "'\u00e9'", "'\u0410'", "'.'", "'.a'", "'a.'", "'a..b'", "'a.1'", "'a.b c'", "'@'", "'['", "'`'", "'{'", "1", "null", "['F']"} {
+	for _, name := range []string{"''", "'1F'", "'a-b'", "'a b'", "' a'", "'\u00e9'", "'\u0410'", "'.'", "'.a'", "'a.'", "'a..b'", "'a.1'", "'a.b c'", "'@'", "'['", "'`'", "'{'", "'a/'", "'a:'", "'a@'", "'a['", "'a^'", "'a`'", "'a{'", "'a~'", "1", "null", "['F']"} {
 		look(t, [][2]string{{fixed(name), "schema"}})
 	}
 	look(t, [][2]string{

@@ -15,7 +15,7 @@ const (
 	mostItems        = 1000 // of arrays and maps in a datum (P7)
 )
 
-// Default tells a field's default (P5), in new memory, and whether it has one.
+// Default tells a field's default (P5), in new memory, and whether it has one. (It cannot go wrong of a field that Read told.)
 func (f Field) Default() (datum.Datum, bool) {
 	if !f.isTold {
 		return datum.Datum{}, false
