@@ -7,7 +7,9 @@ import (
 
 	"avro/datum"
 	"avro/jsonvalue"
+	"avro/resolve"
 	"avro/schema"
+	"avro/wire"
 )
 
 // Why something is refused: asked with errors.Is.
@@ -64,13 +66,13 @@ func (r *refusal) Unwrap() error { return r.reason }
 type Datum = datum.Datum
 
 // FromFloat32 tells the datum of a float (P7).
-func FromFloat32(f float32) Datum { return Datum{} }
+func FromFloat32(f float32) Datum { return datum.FromFloat32(f) }
 
 // FromFloat64 tells the datum of a double (P7).
-func FromFloat64(f float64) Datum { return Datum{} }
+func FromFloat64(f float64) Datum { return datum.FromFloat64(f) }
 
 // Number tells what a number's datum is (P7).
-func Number(d Datum) float64 { return 0 }
+func Number(d Datum) float64 { return datum.Number(d) }
 
 // Schema tells which data may be.
 type Schema struct{ root *schema.Type }
@@ -90,26 +92,69 @@ func Parse(text string) (*Schema, error) {
 
 // Canonical tells a schema in its plainest form (P6).
 func (s *Schema) Canonical() string {
-	if s == nil || s.root == nil {
-		return "" // no schema that Parse made
+	if !s.isMade() {
+		return ""
 	}
 	return s.root.Canonical()
 }
 
+// isMade tells whether Parse made the schema: to any other no datum fits.
+func (s *Schema) isMade() bool { return s != nil && s.root != nil }
+
 // Fits tells whether the schema has a datum (P7).
-func (s *Schema) Fits(d Datum) bool { return false }
+func (s *Schema) Fits(d Datum) bool { return s.isMade() && s.root.Fits(d) }
 
 // Encode tells a datum's bytes (P8).
-func (s *Schema) Encode(d Datum) (string, error) { return "", nil }
+func (s *Schema) Encode(d Datum) (string, error) {
+	if !s.Fits(d) {
+		return "", ErrDatum
+	}
+	return wire.Encode(d), nil
+}
 
 // Decode tells the datum that bytes begin with, and how many they are (P9).
-func (s *Schema) Decode(text string) (Datum, int, error) { return Datum{}, 0, nil }
+func (s *Schema) Decode(text string) (Datum, int, error) {
+	if !s.isMade() {
+		return Datum{}, 0, ErrSchema
+	}
+	d, n, err := wire.Decode(s.root, text)
+	if err != nil {
+		return Datum{}, 0, &refusal{unread(err), err}
+	}
+	return d, n, nil
+}
+
+// unread tells by which reason bytes are refused.
+func unread(err error) error {
+	switch {
+	case errors.Is(err, wire.ErrShort):
+		return ErrShort
+	case errors.Is(err, wire.ErrDeep):
+		return ErrDeep
+	case errors.Is(err, wire.ErrMany):
+		return ErrMany
+	}
+	return ErrRange
+}
 
 // Match tells whether a writer's and a reader's schema go together (P10).
-func Match(w, r *Schema) bool { return false }
+func Match(w, r *Schema) bool { return w.isMade() && r.isMade() && resolve.Match(w.root, r.root) }
 
 // DecodeAs tells the datum that a writer's bytes begin with, as this schema has it (P11).
-func (s *Schema) DecodeAs(w *Schema, text string) (Datum, int, error) { return Datum{}, 0, nil }
+func (s *Schema) DecodeAs(w *Schema, text string) (Datum, int, error) {
+	if !s.isMade() {
+		return Datum{}, 0, ErrSchema
+	}
+	d, n, err := w.Decode(text)
+	if err != nil {
+		return Datum{}, 0, err
+	}
+	d, err = resolve.As(w.root, s.root, d)
+	if err != nil {
+		return Datum{}, 0, &refusal{ErrResolve, err}
+	}
+	return d, n, nil
+}
 
 // Sum tells the sum of bytes (P12).
 func Sum(text string) uint32 { return 0 }

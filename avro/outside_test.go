@@ -1,8 +1,10 @@
 package avro_test
 
 import (
+	"reflect"
 	"testing"
 
+	"avro/avro"
 	"avro/plain"
 )
 
@@ -24,5 +26,67 @@ func TestParseFromOutside(t *testing.T) {
 		if s, n := plain.Parse(text); n != want || (s == nil) != (want > 0) {
 			t.Errorf("%s: %v, %d, want %d", text, s, n, want)
 		}
+	}
+}
+
+// parse tells the schema of a text that is one.
+func parse(t *testing.T, text string) *avro.Schema {
+	t.Helper()
+	s, n := plain.Parse(text)
+	if n != 0 {
+		t.Fatalf("%s: %d", text, n)
+	}
+	return s
+}
+
+// The document's examples 3 and 4, as plain asks.
+func TestBytesFromOutside(t *testing.T) {
+	for n, want := range map[int64]string{-64: "\x7f", 64: "\x80\x01"} {
+		if got, e := plain.Encode(parse(t, `"long"`), avro.Datum{Kind: 4, Int: n}); got != want || e != 0 {
+			t.Errorf("%d: %x, %d", n, got, e)
+		}
+	}
+	s := parse(t, `{"type":"array","items":"int"}`)
+	list := avro.Datum{Kind: 11, Kids: []avro.Datum{{Kind: 3, Int: 5}, {Kind: 3, Int: -6}}}
+	if got, e := plain.Encode(s, list); got != "\x04\x0a\x0b\x00" || e != 0 {
+		t.Errorf("5, -6: %x, %d", got, e)
+	}
+	if d, n, e := plain.Decode(s, "\x03\x04\x0a\x0b\x00"); !reflect.DeepEqual(d, list) || n != 5 || e != 0 {
+		t.Errorf("a block with its size: %v, %d, %d", d, n, e)
+	}
+	if d, n, e := plain.Decode(s, "\x03\x06\x0a\x0b\x00"); !reflect.DeepEqual(d, avro.Datum{}) || n != 0 || e != 5 {
+		t.Errorf("a block with another size: %v, %d, %d", d, n, e)
+	}
+	if got, e := plain.Encode(s, avro.Datum{}); got != "" || e != 3 {
+		t.Errorf("no datum: %x, %d", got, e)
+	}
+}
+
+// The document's examples 5 and 6, as plain asks.
+func TestAsFromOutside(t *testing.T) {
+	for _, c := range []struct {
+		w, r, text string
+		want       avro.Datum
+	}{
+		{`"int"`, `"float"`, "\x82\x80\x80\x10", avro.Datum{Kind: 5, Bits: 0x4b800000}},
+		{`"int"`, `"double"`, "\x82\x80\x80\x10", avro.Datum{Kind: 6, Bits: 0x4170000010000000}},
+		{`["int","string"]`, `"bytes"`, "\x02\x02a", avro.Datum{Kind: 7, Text: "a"}},
+	} {
+		if d, n, e := plain.DecodeAs(parse(t, c.r), parse(t, c.w), c.text); !reflect.DeepEqual(d, c.want) || n != len(c.text) || e != 0 {
+			t.Errorf("%s as %s: %v, %d, %d", c.w, c.r, d, n, e)
+		}
+	}
+	if d, n, e := plain.DecodeAs(parse(t, `"int"`), parse(t, `"string"`), "\x00"); !reflect.DeepEqual(d, avro.Datum{}) || n != 0 || e != 14 {
+		t.Errorf("a string as an int: %v, %d, %d", d, n, e)
+	}
+}
+
+// P7, as plain asks.
+func TestFloatsFromOutside(t *testing.T) {
+	if d := plain.Float32(0xffffffff3fc00000); !reflect.DeepEqual(d, avro.Datum{Kind: 5, Bits: 0x3fc00000}) || plain.Number(d) != 0x3ff8000000000000 {
+		t.Errorf("a float: %v, %x", d, plain.Number(d))
+	}
+	if d := plain.Float64(0x3ff8000000000000); !reflect.DeepEqual(d, avro.Datum{Kind: 6, Bits: 0x3ff8000000000000}) || plain.Number(d) != 0x3ff8000000000000 {
+		t.Errorf("a double: %v, %x", d, plain.Number(d))
 	}
 }

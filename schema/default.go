@@ -12,7 +12,6 @@ import (
 const (
 	mostDefaultsDeep = 32
 	mostDefaults     = 4000
-	mostItems        = 1000 // of arrays and maps in a datum (P7)
 )
 
 // Default tells a field's default (P5), in new memory, and whether it has one. (It cannot go wrong of a field that Read told.)
@@ -54,7 +53,7 @@ func (m *maker) datum(t *Type, v jsonvalue.Value, depth int) datum.Datum {
 	case datum.Int, datum.Long:
 		d.Int = numberOf(t, v)
 	case datum.Float, datum.Double:
-		d.Bits = bitsOf(t, v)
+		d = datum.Nearest(t.Kind, check(v, jsonvalue.Number).Int)
 	case datum.String:
 		d.Text = check(v, jsonvalue.String).Text
 	case datum.Bytes, datum.Fixed:
@@ -83,19 +82,10 @@ func check(v jsonvalue.Value, kind jsonvalue.Kind) jsonvalue.Value {
 
 func numberOf(t *Type, v jsonvalue.Value) int64 {
 	n := check(v, jsonvalue.Number).Int
-	if t.Kind == datum.Int && (n < math.MinInt32 || n > math.MaxInt32) {
+	if t.Kind == datum.Int && !datum.IsInt(n) {
 		wrong("a default that is no int")
 	}
 	return n
-}
-
-// bitsOf makes a float of the number at once: by way of a double it would be rounded twice.
-func bitsOf(t *Type, v jsonvalue.Value) uint64 {
-	n := check(v, jsonvalue.Number).Int
-	if t.Kind == datum.Float {
-		return uint64(math.Float32bits(float32(n)))
-	}
-	return math.Float64bits(float64(n))
 }
 
 func bytesOf(t *Type, v jsonvalue.Value) string {
@@ -144,8 +134,8 @@ func (m *maker) items(t *Type, v jsonvalue.Value, depth int) []datum.Datum {
 	for _, item := range v.Items {
 		kids = append(kids, m.datum(t.Item, item, depth+1))
 	}
-	if m.listed-ahead > mostItems {
-		wrong("a default with more than " + strconv.Itoa(mostItems) + " items of arrays and maps")
+	if m.listed-ahead > datum.MostItems {
+		wrong("a default with more than " + strconv.Itoa(datum.MostItems) + " items of arrays and maps")
 	}
 	return kids
 }
