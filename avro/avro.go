@@ -5,7 +5,9 @@ import (
 	"errors"
 	"strconv"
 
+	"avro/crc"
 	"avro/datum"
+	"avro/flate"
 	"avro/jsonvalue"
 	"avro/resolve"
 	"avro/schema"
@@ -157,13 +159,27 @@ func (s *Schema) DecodeAs(w *Schema, text string) (Datum, int, error) {
 }
 
 // Sum tells the sum of bytes (P12).
-func Sum(text string) uint32 { return 0 }
+func Sum(text string) uint32 { return crc.Sum(text) }
 
 // Deflate tells a text in fewer bytes, as a rule (P14).
-func Deflate(text string) string { return "" }
+func Deflate(text string) string { return flate.Deflate(text) }
 
 // Inflate tells what compressed bytes say (P13).
-func Inflate(text string, most int) (string, error) { return "", nil }
+func Inflate(text string, most int) (string, error) {
+	said, err := flate.Inflate(text, most)
+	if err != nil {
+		return "", &refusal{uninflated(err), err}
+	}
+	return said, nil
+}
+
+// uninflated tells by which reason compressed bytes are refused.
+func uninflated(err error) error {
+	if errors.Is(err, flate.ErrCap) {
+		return ErrCap
+	}
+	return ErrFlate
+}
 
 // File is a stand-in for a file (P15).
 type File struct{}

@@ -90,3 +90,28 @@ func TestFloatsFromOutside(t *testing.T) {
 		t.Errorf("a double: %v, %x", d, plain.Number(d))
 	}
 }
+
+// The document's seventh example, as plain asks.
+func TestCompressionFromOutside(t *testing.T) {
+	if got := plain.Sum("123456789"); got != 0xcbf43926 {
+		t.Errorf("the sum: %x", got)
+	}
+	for _, c := range []struct {
+		text string
+		most int
+		want string
+		e    int
+	}{
+		{"\x4b\x04\x00", 1, "a", 0},
+		{"\x03\x00", 0, "", 0},
+		{"\x4b\x04\x00", 0, "", 9},
+		{"\x4b\x04", 1, "", 8},
+	} {
+		if got, e := plain.Inflate(c.text, c.most); got != c.want || e != c.e {
+			t.Errorf("%x, %d at most: %q, %d", c.text, c.most, got, e)
+		}
+	}
+	if got, e := plain.Inflate(avro.Deflate("again, again"), 12); got != "again, again" || e != 0 {
+		t.Errorf("deflated and inflated: %q, %d", got, e)
+	}
+}

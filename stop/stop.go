@@ -7,6 +7,13 @@ type stopped struct{ err error }
 // With ends the reading that is under way: what Caught it answers err.
 func With(err error) { panic(stopped{err}) }
 
+// Unless ends the reading that is under way where something does not hold.
+func Unless(holds bool, err error) {
+	if !holds {
+		With(err)
+	}
+}
+
 // Caught tells with which error a reading ended, or nil if it came to its end.
 func Caught(read func()) (err error) {
 	defer func() {

@@ -23,6 +23,20 @@ func TestCaughtTellsTheError(t *testing.T) {
 	}
 }
 
+func TestUnless(t *testing.T) {
+	want := errors.New("x")
+	for _, holds := range []bool{true, false} {
+		ended := false
+		err := Caught(func() {
+			Unless(holds, want)
+			ended = true
+		})
+		if ended != holds || (err == nil) != holds || !holds && err != want {
+			t.Errorf("holds: %v, ended: %v, %v", holds, ended, err)
+		}
+	}
+}
+
 func TestCaughtByTheNearest(t *testing.T) {
 	inner, outer := errors.New("inner"), errors.New("outer")
 	err := Caught(func() {

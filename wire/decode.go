@@ -51,23 +51,16 @@ type reader struct {
 	listed int // items of arrays and maps so far
 }
 
-// must stops the reading where something does not hold.
-func must(holds bool, reason error) {
-	if !holds {
-		stop.With(reason)
-	}
-}
-
 // datum reads a datum that stands depth deep.
 func (r *reader) datum(t *schema.Type, depth int) datum.Datum {
-	must(depth <= datum.MostDeep, ErrDeep)
+	stop.Unless(depth <= datum.MostDeep, ErrDeep)
 	d := datum.Datum{Kind: t.Kind}
 	switch t.Kind {
 	case datum.Boolean:
 		d.Int = placeIn(2, int64(r.bytes(1)[0]))
 	case datum.Int:
 		d.Int = r.varint()
-		must(datum.IsInt(d.Int), ErrRange)
+		stop.Unless(datum.IsInt(d.Int), ErrRange)
 	case datum.Long:
 		d.Int = r.varint()
 	case datum.Float:
@@ -97,8 +90,8 @@ func (r *reader) datum(t *schema.Type, depth int) datum.Datum {
 
 // bytes tells the next n, as a piece of the text.
 func (r *reader) bytes(n int64) string {
-	must(n >= 0, ErrRange)
-	must(n <= int64(len(r.text)-r.at), ErrShort)
+	stop.Unless(n >= 0, ErrRange)
+	stop.Unless(n <= int64(len(r.text)-r.at), ErrShort)
 	begin := r.at
 	r.at += int(n)
 	return r.text[begin:r.at]
@@ -116,7 +109,7 @@ func (r *reader) varint() int64 {
 	var bits uint64
 	for i := range mostBytes {
 		b := r.bytes(1)[0]
-		must(i < mostBytes-1 || b <= lastMost, ErrRange)
+		stop.Unless(i < mostBytes-1 || b <= lastMost, ErrRange)
 		bits |= uint64(b%moreFollows) << (bitsEach * i)
 		if b < moreFollows {
 			break
@@ -127,7 +120,7 @@ func (r *reader) varint() int64 {
 
 // placeIn tells a place again that a list of n must have.
 func placeIn(n int, place int64) int64 {
-	must(0 <= place && place < int64(n), ErrRange)
+	stop.Unless(0 <= place && place < int64(n), ErrRange)
 	return place
 }
 
@@ -136,7 +129,7 @@ func (r *reader) lengthy() string { return strings.Clone(r.bytes(r.varint())) }
 
 func (r *reader) unicode() string {
 	text := r.lengthy()
-	must(utf8.ValidString(text), ErrRange)
+	stop.Unless(utf8.ValidString(text), ErrRange)
 	return text
 }
 
@@ -161,7 +154,7 @@ func (r *reader) mapping(t *schema.Type, depth int) ([]string, []datum.Datum) {
 	r.blocks(func() {
 		name := r.unicode()
 		_, ok := places[name]
-		must(!ok, ErrRange)
+		stop.Unless(!ok, ErrRange)
 		places[name] = len(names)
 		names = append(names, name)
 		kids = append(kids, r.datum(t.Item, depth))
@@ -175,15 +168,15 @@ func (r *reader) blocks(item func()) {
 		size := int64(notTold)
 		if count < 0 {
 			size = r.varint()
-			must(size >= 0 && count > math.MinInt64, ErrRange)
+			stop.Unless(size >= 0 && count > math.MinInt64, ErrRange)
 			count = -count
 		}
-		must(count <= int64(datum.MostItems-r.listed), ErrMany)
+		stop.Unless(count <= int64(datum.MostItems-r.listed), ErrMany)
 		r.listed += int(count)
 		begin := r.at
 		for range count {
 			item()
 		}
-		must(size == notTold || size == int64(r.at-begin), ErrRange)
+		stop.Unless(size == notTold || size == int64(r.at-begin), ErrRange)
 	}
 }
