@@ -151,11 +151,20 @@ func (s *Schema) DecodeAs(w *Schema, text string) (Datum, int, error) {
 	if err != nil {
 		return Datum{}, 0, err
 	}
-	d, err = resolve.As(w.root, s.root, d)
+	d, err = s.resolve(w, d)
 	if err != nil {
-		return Datum{}, 0, &refusal{ErrResolve, err}
+		return Datum{}, 0, err
 	}
 	return d, n, nil
+}
+
+// resolve tells a writer's datum as this schema has it.
+func (s *Schema) resolve(w *Schema, d Datum) (Datum, error) {
+	d, err := resolve.As(w.root, s.root, d)
+	if err != nil {
+		return Datum{}, &refusal{ErrResolve, err}
+	}
+	return d, nil
 }
 
 // Sum tells the sum of bytes (P12).
@@ -180,61 +189,3 @@ func uninflated(err error) error {
 	}
 	return ErrFlate
 }
-
-// File is a stand-in for a file (P15).
-type File struct{}
-
-// NewFile makes an empty one (P15).
-func NewFile() *File { return nil }
-
-// Write adds to what is only written (P15).
-func (f *File) Write(text string) error { return nil }
-
-// Sync makes what is written safe (P15).
-func (f *File) Sync() error { return nil }
-
-// Replace puts a text in the place of all (P15).
-func (f *File) Replace(text string) error { return nil }
-
-// Fuse lets the file go down later (P15).
-func (f *File) Fuse(n int) {}
-
-// Crash loses what is not safe (P15).
-func (f *File) Crash(keep int) {}
-
-// Bytes tells what is safe, and what is only written (P15).
-func (f *File) Bytes() (string, string) { return "", "" }
-
-// Writer writes records.
-type Writer struct{}
-
-// Create begins a file (P17).
-func Create(f *File, schema string, codec, block int, marker string) (*Writer, error) {
-	return nil, nil
-}
-
-// Resume goes on with a file (P18).
-func Resume(f *File, block int) (*Writer, error) { return nil, nil }
-
-// Append writes a record, some time (P17).
-func (w *Writer) Append(d Datum) error { return nil }
-
-// Flush makes all safe (P17).
-func (w *Writer) Flush() error { return nil }
-
-// Close makes all safe, and ends (P17).
-func (w *Writer) Close() error { return nil }
-
-// Records tells the records of a file (P19).
-func Records(text string, r *Schema) func(yield func(Datum, error) bool) {
-	return func(yield func(Datum, error) bool) {}
-}
-
-// ReadAll tells the records of a file in a list (P19).
-func ReadAll(text string, r *Schema) ([]Datum, error) { return nil, nil }
-
-// ReadSplit tells the records of a part of a file (P20).
-func ReadSplit(text string, from, to int) ([]Datum, error) { return nil, nil }
-
-// Recover tells the records of what is whole in a file (P21).
-func Recover(text string) ([]Datum, int, error) { return nil, 0, nil }

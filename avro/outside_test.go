@@ -115,3 +115,75 @@ func TestCompressionFromOutside(t *testing.T) {
 		t.Errorf("deflated and inflated: %q, %d", got, e)
 	}
 }
+
+const marker = "0123456789abcdef"
+
+// five and six are the records of the document's examples.
+func five() avro.Datum { return avro.Datum{Kind: 3, Int: 5} }
+func six() avro.Datum  { return avro.Datum{Kind: 3, Int: -6} }
+
+// The document's examples 8, 9 and the first sentence of 10, as plain asks.
+func TestFileFromOutside(t *testing.T) {
+	f := avro.NewFile()
+	w, e := plain.Create(f, `"int"`, 0, 1, marker)
+	if w == nil || e != 0 {
+		t.Fatalf("Create: %v, %d", w, e)
+	}
+	header := "Obj\x01\x04\x14avro.codec\x08null\x16avro.schema\x0a\"int\"\x00" + marker
+	if safe, written := f.Bytes(); safe != "" || written != header {
+		t.Errorf("the header: %q, %q", safe, written)
+	}
+	for _, e := range []int{plain.Append(w, five()), plain.Flush(w), plain.Append(w, six()), plain.Close(w)} {
+		if e != 0 {
+			t.Errorf("a writer's answer: %d", e)
+		}
+	}
+	file := header + "\x02\x02\x0a" + marker + "\x02\x02\x0b" + marker
+	if safe, written := f.Bytes(); safe != file || written != "" {
+		t.Errorf("the file: %q, %q", safe, written)
+	}
+	if l, e, at := plain.ReadAll(file, nil); !reflect.DeepEqual(l, []avro.Datum{five(), six()}) || e != 0 || at != -1 {
+		t.Errorf("ReadAll: %v, %d, %d", l, e, at)
+	}
+	cut := file[:len(file)-1]
+	if l, e, at := plain.ReadAll(cut, nil); !reflect.DeepEqual(l, []avro.Datum{five()}) || e != 12 || at != 1 {
+		t.Errorf("ReadAll without the last byte: %v, %d, %d", l, e, at)
+	}
+	if l, e, at, more := plain.Records(cut, nil, 0); !reflect.DeepEqual(l, []avro.Datum{five()}) || e != 12 || at != 1 || more {
+		t.Errorf("Records without the last byte: %v, %d, %d, %v", l, e, at, more)
+	}
+	if l, e, at, more := plain.Records(file, parse(t, `"long"`), 1); !reflect.DeepEqual(l, []avro.Datum{{Kind: 4, Int: 5}}) || e != 0 || at != -1 || more {
+		t.Errorf("Records, one wanted: %v, %d, %d, %v", l, e, at, more)
+	}
+	if l, e, at, more := plain.Records(file, parse(t, `"string"`), 0); len(l) != 0 || e != 13 || at != -1 || more {
+		t.Errorf("Records as strings: %v, %d, %d, %v", l, e, at, more)
+	}
+	if e := plain.Append(w, five()); e != 15 {
+		t.Errorf("Append behind Close: %d", e)
+	}
+}
+
+// The document's example 12, up to what Append answers, as plain asks.
+func TestDownFromOutside(t *testing.T) {
+	f := avro.NewFile()
+	f.Fuse(2)
+	w, e := plain.Create(f, `"int"`, 0, 1, marker)
+	if w == nil || e != 0 {
+		t.Fatalf("Create: %v, %d", w, e)
+	}
+	for range 2 {
+		if e := plain.Append(w, five()); e != 16 {
+			t.Errorf("Append: %d", e)
+		}
+	}
+	if plain.Write(f, "x") != 16 || plain.Sync(f) != 16 || plain.Replace(f, "x") != 16 {
+		t.Error("the file is up")
+	}
+	f.Crash(9999)
+	if plain.Write(f, "x") != 0 || plain.Sync(f) != 0 || plain.Replace(f, "x") != 0 {
+		t.Error("the file is down")
+	}
+	if e := plain.Append(w, five()); e != 16 {
+		t.Errorf("Append behind the crash: %d", e)
+	}
+}
