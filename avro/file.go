@@ -21,6 +21,11 @@ func (f *File) operate(do func()) error {
 	}
 	f.lock.Lock()
 	defer f.lock.Unlock()
+	return f.ifUp(do)
+}
+
+// ifUp is operate where the lock is held already.
+func (f *File) ifUp(do func()) error {
 	if f.fuse > 0 {
 		f.fuse--
 		f.isDown = f.isDown || f.fuse == 0
@@ -44,7 +49,27 @@ func (f *File) Sync() error {
 
 // Replace puts a text in the place of all (P15).
 func (f *File) Replace(text string) error {
-	return f.operate(func() { f.safe, f.written = []byte(text), nil })
+	return f.operate(func() { f.put(text) })
+}
+
+func (f *File) put(text string) { f.safe, f.written = []byte(text), nil }
+
+// cut replaces all that the file has by its first bytes, as many as whole says; where these are all, and safe, it is no operation. The lock is held throughout: what another writes between the look and the Replace would be lost.
+func (f *File) cut(whole func(all string) (int, error)) error {
+	if f == nil {
+		return ErrDown
+	}
+	f.lock.Lock()
+	defer f.lock.Unlock()
+	all := string(f.safe) + string(f.written)
+	size, err := whole(all)
+	if err != nil {
+		return err
+	}
+	if size == len(f.safe) && len(f.written) == 0 {
+		return nil
+	}
+	return f.ifUp(func() { f.put(all[:size]) })
 }
 
 // Fuse lets the file go down later (P15).

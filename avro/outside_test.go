@@ -163,7 +163,74 @@ func TestFileFromOutside(t *testing.T) {
 	}
 }
 
-// The document's example 12, up to what Append answers, as plain asks.
+// exampleFile is the file of the document's example 9: its header, and all of it.
+func exampleFile() (string, string) {
+	header := "Obj\x01\x04\x14avro.codec\x08null\x16avro.schema\x0a\"int\"\x00" + marker
+	return header, header + "\x02\x02\x0a" + marker + "\x02\x02\x0b" + marker
+}
+
+// The document's examples 10 and 11, as plain asks.
+func TestDamageFromOutside(t *testing.T) {
+	header, file := exampleFile()
+	cut := file[:len(file)-1]
+	if l, left, e := plain.Recover(cut); !reflect.DeepEqual(l, []avro.Datum{five()}) || left != 1 || e != 0 {
+		t.Errorf("Recover without the last byte: %v, %d, %d", l, left, e)
+	}
+	f := avro.NewFile()
+	if e := plain.Write(f, cut); e != 0 {
+		t.Fatal(e)
+	}
+	w, e := plain.Resume(f, 1)
+	if w == nil || e != 0 {
+		t.Fatalf("Resume: %v, %d", w, e)
+	}
+	if safe, written := f.Bytes(); safe != header+"\x02\x02\x0a"+marker || written != "" {
+		t.Errorf("what Resume leaves: %q, %q", safe, written)
+	}
+	if plain.Append(w, six()) != 0 || plain.Close(w) != 0 {
+		t.Error("the writer does not go on")
+	}
+	if safe, written := f.Bytes(); safe != file || written != "" {
+		t.Errorf("gone on with: %q, %q", safe, written)
+	}
+	bent := header + "\x02\x02\x8a" + file[len(header)+3:]
+	if l, left, e := plain.Recover(bent); !reflect.DeepEqual(l, []avro.Datum{six()}) || left != 1 || e != 0 {
+		t.Errorf("Recover with a byte turned: %v, %d, %d", l, left, e)
+	}
+	if l, left, e := plain.Recover(file[1:]); len(l) != 0 || left != 0 || e != 10 {
+		t.Errorf("Recover without a header: %v, %d, %d", l, left, e)
+	}
+	if w, e := plain.Resume(avro.NewFile(), 1); w != nil || e != 10 {
+		t.Errorf("Resume of nothing: %v, %d", w, e)
+	}
+}
+
+// P20, as plain asks.
+func TestSplitFromOutside(t *testing.T) {
+	header, file := exampleFile()
+	for _, c := range []struct {
+		from, to int
+		want     []avro.Datum
+	}{
+		{0, len(file), []avro.Datum{five(), six()}},
+		{0, len(header) + 1, []avro.Datum{five()}},
+		{len(header) + 1, len(file), []avro.Datum{six()}},
+		{len(header) + 20, len(file), nil},
+		{len(file) + 1, len(file) + 2, nil},
+	} {
+		if l, e, at := plain.ReadSplit(file, c.from, c.to); len(l) != len(c.want) || len(l) > 0 && !reflect.DeepEqual(l, c.want) || e != 0 || at != -1 {
+			t.Errorf("%d to %d: %v, %d, %d", c.from, c.to, l, e, at)
+		}
+	}
+	if l, e, at := plain.ReadSplit(file[:len(file)-1], 0, len(file)); len(l) != 0 || e != 12 || at != 1 {
+		t.Errorf("without the last byte: %v, %d, %d", l, e, at)
+	}
+	if l, e, at := plain.ReadSplit(file[1:], 0, len(file)); len(l) != 0 || e != 10 || at != -1 {
+		t.Errorf("without a header: %v, %d, %d", l, e, at)
+	}
+}
+
+// The document's example 12, as plain asks.
 func TestDownFromOutside(t *testing.T) {
 	f := avro.NewFile()
 	f.Fuse(2)
@@ -179,11 +246,22 @@ func TestDownFromOutside(t *testing.T) {
 	if plain.Write(f, "x") != 16 || plain.Sync(f) != 16 || plain.Replace(f, "x") != 16 {
 		t.Error("the file is up")
 	}
-	f.Crash(9999)
-	if plain.Write(f, "x") != 0 || plain.Sync(f) != 0 || plain.Replace(f, "x") != 0 {
-		t.Error("the file is down")
+	if next, e := plain.Resume(f, 1); next != nil || e != 16 {
+		t.Errorf("Resume ahead of the crash: %v, %d", next, e)
 	}
+	f.Crash(9999)
 	if e := plain.Append(w, five()); e != 16 {
 		t.Errorf("Append behind the crash: %d", e)
+	}
+	next, e := plain.Resume(f, 1)
+	if next == nil || e != 0 {
+		t.Fatalf("Resume: %v, %d", next, e)
+	}
+	safe, written := f.Bytes()
+	if l, e, _ := plain.ReadAll(safe, nil); len(l) != 0 || e != 0 || written != "" {
+		t.Errorf("a file without records: %v, %d, %q", l, e, written)
+	}
+	if plain.Write(f, "x") != 0 || plain.Sync(f) != 0 || plain.Replace(f, "x") != 0 {
+		t.Error("the file is down")
 	}
 }

@@ -5,7 +5,7 @@ import "iter"
 // Records tells the records of a file (P19).
 func Records(text string, r *Schema) func(yield func(Datum, error) bool) {
 	return func(yield func(Datum, error) bool) {
-		l, size, err := readLayout(text)
+		l, headerEnd, err := readLayout(text)
 		if err == nil && r != nil && !Match(l.schema, r) {
 			err = ErrMatch
 		}
@@ -14,7 +14,7 @@ func Records(text string, r *Schema) func(yield func(Datum, error) bool) {
 			return
 		}
 		told := 0
-		for d, err := range l.records(text[size:], r) {
+		for d, err := range l.records(text, headerEnd, r) {
 			if err != nil {
 				yield(Datum{}, &Fault{told, err})
 				return
@@ -27,22 +27,20 @@ func Records(text string, r *Schema) func(yield func(Datum, error) bool) {
 	}
 }
 
-// records tells the records of blocks, as r has them; at an error that, as the last.
-func (l layout) records(blocks string, r *Schema) iter.Seq2[Datum, error] {
+// records tells the records of a text's blocks from a place on, as r has them; at an error that, as the last.
+func (l layout) records(text string, from int, r *Schema) iter.Seq2[Datum, error] {
 	return func(yield func(Datum, error) bool) {
-		for rest := blocks; rest != ""; {
-			list, size, err := l.readBlock(rest)
+		for block, err := range l.blocks(text, from, len(text)) {
 			if err != nil {
 				yield(Datum{}, err)
 				return
 			}
-			for _, d := range list {
+			for _, d := range block.records {
 				d, err := r.as(l.schema, d)
 				if !yield(d, err) || err != nil {
 					return
 				}
 			}
-			rest = rest[size:]
 		}
 	}
 }
@@ -68,7 +66,39 @@ func ReadAll(text string, r *Schema) ([]Datum, error) {
 }
 
 // ReadSplit tells the records of a part of a file (P20).
-func ReadSplit(text string, from, to int) ([]Datum, error) { return nil, nil }
+func ReadSplit(text string, from, to int) ([]Datum, error) {
+	l, headerEnd, err := readLayout(text)
+	if err != nil {
+		return nil, err
+	}
+	var list []Datum
+	for block, err := range l.blocks(text, l.splitBegin(text, headerEnd, from), to) {
+		if err != nil {
+			return nil, &Fault{len(list), err}
+		}
+		list = append(list, block.records...)
+	}
+	return list, nil
+}
 
 // Recover tells the records of what is whole in a file (P21).
-func Recover(text string) ([]Datum, int, error) { return nil, 0, nil }
+func Recover(text string) ([]Datum, int, error) {
+	l, at, err := readLayout(text)
+	if err != nil {
+		return nil, 0, err
+	}
+	var list []Datum
+	leftOut := 0
+	for at < len(text) {
+		for block, err := range l.blocks(text, at, len(text)) {
+			if err != nil {
+				leftOut++
+				at = l.behindMarker(text, at)
+				break
+			}
+			list = append(list, block.records...)
+			at = block.end
+		}
+	}
+	return list, leftOut, nil
+}

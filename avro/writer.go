@@ -38,7 +38,24 @@ func Create(f *File, schema string, codec, block int, marker string) (*Writer, e
 func isBlockSize(n int) bool { return 1 <= n && n <= container.MostBytes }
 
 // Resume goes on with a file (P18).
-func Resume(f *File, block int) (*Writer, error) { return nil, nil }
+func Resume(f *File, block int) (*Writer, error) {
+	var found layout
+	err := f.cut(func(all string) (int, error) {
+		l, size, err := readLayout(all)
+		if err != nil {
+			return 0, err
+		}
+		if !isBlockSize(block) {
+			return 0, ErrRange
+		}
+		found = l
+		return l.wholeEnd(all, size), nil
+	})
+	if err != nil {
+		return nil, err
+	}
+	return &Writer{file: f, layout: found, most: block}, nil
+}
 
 // Append writes a record, some time (P17).
 func (w *Writer) Append(d Datum) error {

@@ -1,9 +1,10 @@
-// Package container has a file's header and its blocks as bytes: P16. They are written and read as data are: a header is a record of a fixed, a map of bytes and a fixed, a block is one of a long, bytes and a fixed.
+// Package container has a file's header and its blocks as bytes: P16. They are written and read as data are: a header is a record of a fixed, a map of bytes and a fixed, a block is one of a long, bytes and a fixed, or, to be read, of two longs, and what these tell of.
 package container
 
 import (
 	"errors"
 	"slices"
+	"strings"
 
 	"avro/datum"
 	"avro/schema"
@@ -25,6 +26,7 @@ var (
 	errBegin    = errors.New("bytes that begin as no file's")
 	errNoSchema = errors.New("a header without a schema")
 	errCount    = errors.New("so many records as no block has")
+	errSize     = errors.New("so many bytes as the text does not have")
 	errMarker   = errors.New("a block without the marker behind it")
 )
 
@@ -83,21 +85,25 @@ func (b Block) Encode(marker string) string {
 	return wire.Encode(record(count, ofBytes(b.Bytes), fixed(marker)))
 }
 
-// DecodeBlock tells the block with which a text begins, and how many bytes that is.
+// DecodeBlock tells the block with which a text begins, and how many bytes that is. The block's bytes are a piece of the text: where a damaged file is searched for blocks, most of what is tried is none, and a copy each time would cost more than all else.
 func DecodeBlock(text, marker string) (Block, int, error) {
-	t := recordOf(&schema.Type{Kind: datum.Long}, bytesType(), fixedOf(MarkerSize))
-	d, size, err := wire.Decode(t, text)
+	number := &schema.Type{Kind: datum.Long}
+	d, begin, err := wire.Decode(recordOf(number, number), text)
 	if err != nil {
 		return Block{}, 0, err
 	}
-	count := d.Kids[0].Int
+	count, size := d.Kids[0].Int, d.Kids[1].Int
 	if count < 1 || count > MostRecords {
 		return Block{}, 0, errCount
 	}
-	if d.Kids[2].Text != marker {
+	if size < 0 || size > int64(len(text)-begin) {
+		return Block{}, 0, errSize
+	}
+	end := begin + int(size)
+	if !strings.HasPrefix(text[end:], marker) {
 		return Block{}, 0, errMarker
 	}
-	return Block{int(count), d.Kids[1].Text}, size, nil
+	return Block{int(count), text[begin:end]}, end + len(marker), nil
 }
 
 func record(kids ...datum.Datum) datum.Datum { return datum.Datum{Kind: datum.Record, Kids: kids} }

@@ -50,4 +50,9 @@ func TestBlock(t *testing.T) {
 			t.Errorf("%d records: %v, %d, %v", count, got, n, err)
 		}
 	}
+	for _, text := range []string{"", "\x02", "\x02\x80", "\x02\x01" + marker, "\x02\x02" + marker, "\x02\x24" + marker, "\x02\xfe\xff\xff\xff\xff\xff\xff\xff\xff\x01" + marker, "\x02\x00" + marker[:15]} {
+		if got, n, err := DecodeBlock(text, marker); got != (Block{}) || n != 0 || err == nil {
+			t.Errorf("%q: %v, %d, %v", text, got, n, err)
+		}
+	}
 }
